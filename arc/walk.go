@@ -67,7 +67,8 @@ func (w *walk) look() (part, api.Errno) {
 	if e := x.cutData(w.file); e != api.OK {
 		return x, e
 	}
-	return x, x.findName(w.table)
+	e = x.findName(w.table) // not beside x in the return: Go leaves open whether x is read ahead of a call that changes it
+	return x, e
 }
 
 // kindAt is the archive's kind: a regular one's first part settles it.
