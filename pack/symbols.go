@@ -1,0 +1,51 @@
+package pack
+
+import (
+	"shelf/api"
+	"shelf/pairs"
+)
+
+// symbolsOf gathers the names that go into an index, each with the number of its unit: the unit's place is not known before everything is laid out.
+func symbolsOf(list []api.Unit) pairs.List[string, int] {
+	count := 0
+	for _, u := range list {
+		count += len(u.Syms)
+	}
+	all := make(pairs.List[string, int], 0, count)
+	for number, u := range list {
+		for _, name := range u.Syms {
+			all.Add(name, number)
+		}
+	}
+	return all
+}
+
+// entriesOf is what an index says of these symbols once their units have places.
+func entriesOf(symbols pairs.List[string, int], at []int) []api.Entry {
+	entries := make([]api.Entry, len(symbols))
+	for i, symbol := range symbols {
+		entries[i] = api.Entry{Name: symbol.Left, At: at[symbol.Right]}
+	}
+	return entries
+}
+
+func specsOf(list []api.Unit) []api.Spec {
+	specs := make([]api.Spec, len(list))
+	for i, u := range list {
+		specs[i] = u.Spec
+	}
+	return specs
+}
+
+// written are the members as an archive of this kind holds them: a thin one leaves the data in the files.
+func written(kind api.Kind, list []api.Member) []api.Member {
+	if kind != api.Thin {
+		return list
+	}
+	members := make([]api.Member, len(list))
+	for i, m := range list {
+		m.Data = ""
+		members[i] = m
+	}
+	return members
+}

@@ -1,0 +1,25 @@
+// Package pairs: lists of pairs of whatever two types, for the layers that gather such lists.
+package pairs
+
+// Pair is two values that belong together.
+type Pair[L, R any] struct {
+	Left  L
+	Right R
+}
+
+// List is pairs in the order in which they were added.
+type List[L, R any] []Pair[L, R]
+
+// Add puts a pair behind those that are there.
+func (l *List[L, R]) Add(left L, right R) {
+	*l = append(*l, Pair[L, R]{left, right})
+}
+
+// Lefts are the pairs' left values in order, as a list of its own.
+func (l List[L, R]) Lefts() []L {
+	lefts := make([]L, len(l))
+	for i, p := range l {
+		lefts[i] = p.Left
+	}
+	return lefts
+}
