@@ -2,9 +2,8 @@
 package fetch
 
 import (
-	"errors"
-
 	"shelf/api"
+	"shelf/files"
 	"shelf/vfs"
 )
 
@@ -14,9 +13,8 @@ func File(fs *vfs.FS, name string) (string, api.Errno) {
 		return "", api.ErrReserved
 	}
 	data, err := fs.ReadFile(name)
-	var f *api.FileError
-	if errors.As(err, &f) {
-		return "", f.Err
+	if err != nil {
+		return "", files.Code(err)
 	}
 	return data, api.OK
 }

@@ -3,6 +3,7 @@ package tool
 import (
 	"shelf/api"
 	"shelf/commit"
+	"shelf/files"
 	"shelf/ops"
 	"shelf/pack"
 	"shelf/show"
@@ -31,11 +32,11 @@ func (w *work) gather() refusal {
 	for _, name := range w.command.Names {
 		info, err := w.Stat(name)
 		if err != nil {
-			return refusal{name, codeOf(err)}
+			return refusal{name, files.Code(err)}
 		}
 		data, err := w.ReadFile(name)
 		if err != nil {
-			return refusal{name, codeOf(err)}
+			return refusal{name, files.Code(err)}
 		}
 		w.fresh = append(w.fresh, api.Member{Meta: info.Meta, Name: name, Size: len(data), Data: data})
 	}
@@ -88,7 +89,7 @@ func (w *work) build() refusal {
 func (w *work) replace() refusal {
 	meta := api.Meta{Date: w.env.Now, UID: w.env.UID, GID: w.env.GID, Mode: archiveMode}
 	err := commit.Replace(w.FS, w.command.Archive, w.data, meta)
-	return refusal{w.command.Archive, codeOf(err)}
+	return refusal{w.command.Archive, files.Code(err)}
 }
 
 // changed is what is told of a change that was made.

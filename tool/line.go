@@ -4,6 +4,7 @@ import (
 	"strings"
 
 	"shelf/api"
+	"shelf/files"
 	"shelf/text"
 	"shelf/vfs"
 )
@@ -23,7 +24,7 @@ func wordsFor(fs *vfs.FS, word string) ([]string, refusal) {
 		return []string{word}, refusal{}
 	}
 	data, err := fs.ReadFile(name)
-	code := codeOf(err)
+	code := files.Code(err)
 	if isNoFile(code) {
 		return []string{word}, refusal{}
 	}

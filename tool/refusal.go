@@ -1,10 +1,10 @@
 package tool
 
 import (
-	"errors"
 	"strings"
 
 	"shelf/api"
+	"shelf/files"
 	"shelf/show"
 )
 
@@ -19,15 +19,6 @@ func (no refusal) told(prog int) api.Result {
 	return api.Result{Msg: show.Message(prog, no.name, no.code), Code: no.code}
 }
 
-// codeOf is why a call of the volume failed.
-func codeOf(err error) api.Errno {
-	var f *api.FileError
-	if errors.As(err, &f) {
-		return f.Err
-	}
-	return api.OK
-}
-
 // isNoFile: does the code say that no such file is there, or that none can be?
 func isNoFile(code api.Errno) bool {
 	return code == api.ErrMissing || code == api.ErrFileName
@@ -38,27 +29,16 @@ func ahead(c api.Command) refusal {
 	if strings.IndexByte("dmpqrstx", c.Op) < 0 {
 		return refusal{"", api.ErrNoOp}
 	}
-	if e := whyNoName(c.Archive); e != api.OK {
+	if e := files.Refusal(c.Archive); e != api.OK {
 		return refusal{c.Archive, e}
 	}
 	if c.Prog != api.Ranlib && c.Op != 'r' && c.Op != 'q' {
 		return refusal{} // the names are members', which may be any
 	}
 	for _, name := range c.Names {
-		if e := whyNoName(name); e != api.OK {
+		if e := files.Refusal(name); e != api.OK {
 			return refusal{name, e}
 		}
 	}
 	return refusal{}
-}
-
-// whyNoName is why a command may name no such file; OK: it may.
-func whyNoName(name string) api.Errno {
-	if name == api.TempName {
-		return api.ErrReserved
-	}
-	if name == "" || len(name) > api.MaxFileName || strings.ContainsAny(name, "/\x00") {
-		return api.ErrFileName
-	}
-	return api.OK
 }

@@ -2,8 +2,8 @@ package tool
 
 import (
 	"shelf/api"
+	"shelf/files"
 	"shelf/show"
-	"shelf/vfs"
 )
 
 // extract carries out x. What was unpacked is told also if a later member is refused: its file is there.
@@ -32,7 +32,7 @@ func (w *work) unpackAll(list []api.Member) refusal {
 		return refusal{}
 	}
 	err := w.SyncDir()
-	return refusal{w.command.Archive, codeOf(err)}
+	return refusal{w.command.Archive, files.Code(err)}
 }
 
 // unpack makes a file of a member. The archive is never written over by a member of its own.
@@ -46,20 +46,8 @@ func (w *work) unpack(m api.Member) api.Errno {
 	}
 	h, err := w.Create(m.Name, meta)
 	if err != nil {
-		return codeOf(err)
+		return files.Code(err)
 	}
-	return codeOf(fill(h, m.Data))
-}
-
-// fill writes a file's bytes piece by piece, makes them durable, and lets the handle go.
-func fill(h *vfs.File, data string) error {
-	defer h.Close()
-	for rest := data; rest != ""; {
-		piece := rest[:min(len(rest), api.Chunk)]
-		if _, err := h.Write(piece); err != nil {
-			return err
-		}
-		rest = rest[len(piece):]
-	}
-	return h.Sync()
+	err = files.Fill(h, m.Data)
+	return files.Code(err)
 }

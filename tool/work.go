@@ -4,6 +4,7 @@ import (
 	"shelf/api"
 	"shelf/arc"
 	"shelf/commit"
+	"shelf/files"
 	"shelf/vfs"
 )
 
@@ -56,7 +57,7 @@ func (w *work) open() refusal {
 	archive := w.command.Archive
 	data, there, err := commit.Load(w.FS, archive)
 	if err != nil {
-		return refusal{archive, codeOf(err)}
+		return refusal{archive, files.Code(err)}
 	}
 	if !there {
 		return w.begin()
