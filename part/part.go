@@ -1,4 +1,5 @@
-package arc
+// Package part: the parts of an archive, each a header with what belongs to it, as the layers that read archives of members go through them: what may stand at a place, and what it tells.
+package part
 
 import (
 	"shelf/api"
@@ -6,11 +7,14 @@ import (
 	"shelf/names"
 )
 
-// part is a header with what belongs to it.
-type part struct {
+// pad stands behind data of odd length.
+const pad = '\n'
+
+// Part is a header with what belongs to it.
+type Part struct {
 	api.Head           // Size: how many bytes the member has for its reader
-	at       int       // where the header begins
-	end      int       // where the next part begins
+	At       int       // where the header begins
+	End      int       // where what belongs to it ends
 	kind     api.Kind  // the archive's, as far as it is known here
 	field    api.Field // what the header's name field says
 	name     string    // an ordinary member's
@@ -18,23 +22,24 @@ type part struct {
 }
 
 // readHead reads the header at a place, and its name field.
-func readHead(b string, at int) (part, api.Errno) {
+func readHead(b string, at int) (Part, api.Errno) {
 	h, e := head.Parse(b, at)
 	if e != api.OK {
-		return part{at: at}, e
+		return Part{At: at}, e
 	}
 	f, e := names.Read(h.Name)
-	return part{Head: h, at: at, field: f}, e
+	return Part{Head: h, At: at, field: f}, e
 }
 
-func (x part) isIndex() bool { return x.form() != api.NoIndex }
+func (x Part) isIndex() bool { return x.form() != api.NoIndex }
 
-func (x part) isTable() bool { return x.field.Sort == api.FieldTable }
+func (x Part) isTable() bool { return x.field.Sort == api.FieldTable }
 
-func (x part) isOrdinary() bool { return !x.isIndex() && !x.isTable() }
+// IsOrdinary: is it a member, neither the index nor the table of long names?
+func (x Part) IsOrdinary() bool { return !x.isIndex() && !x.isTable() }
 
 // form is the index's; NoIndex tells that the part is none.
-func (x part) form() api.Form {
+func (x Part) form() api.Form {
 	switch x.field.Sort {
 	case api.FieldIndex:
 		return api.Index32
@@ -47,36 +52,36 @@ func (x part) form() api.Form {
 }
 
 // hasData: the data of a thin archive's ordinary members are in files of their own.
-func (x part) hasData() bool { return x.kind != api.Thin || !x.isOrdinary() }
+func (x Part) hasData() bool { return x.kind != api.Thin || !x.IsOrdinary() }
 
 // goesWithKind: may a field of this sort stand in an archive of this kind?
-func (x part) goesWithKind() bool {
+func (x Part) goesWithKind() bool {
 	return (names.KindOf(x.field.Sort) == api.BSD) == (x.kind == api.BSD)
 }
 
 // cutData takes the data that stand behind the header, and their newline.
-func (x *part) cutData(b string) api.Errno {
-	x.end = x.at + api.HeadSize
+func (x *Part) cutData(b string) api.Errno {
+	x.End = x.At + api.HeadSize
 	if !x.hasData() {
 		return api.OK
 	}
-	if x.Size > len(b)-x.end {
+	if x.Size > len(b)-x.End {
 		return api.ErrData
 	}
-	x.data = b[x.end : x.end+x.Size]
-	x.end += x.Size
+	x.data = b[x.End : x.End+x.Size]
+	x.End += x.Size
 	if x.Size%2 == 0 {
 		return api.OK
 	}
-	if x.end == len(b) || b[x.end] != pad {
+	if x.End == len(b) || b[x.End] != pad {
 		return api.ErrPad
 	}
-	x.end++
+	x.End++
 	return api.OK
 }
 
 // findName looks for an ordinary member's name where its field says that it is.
-func (x *part) findName(table string) api.Errno {
+func (x *Part) findName(table string) api.Errno {
 	var e api.Errno
 	switch x.field.Sort {
 	case api.FieldShort, api.FieldPlain:
@@ -90,7 +95,19 @@ func (x *part) findName(table string) api.Errno {
 	return e
 }
 
-// member is an ordinary member as it is told.
-func (x part) member() api.Member {
+// Member is an ordinary member as it is told.
+func (x Part) Member() api.Member {
 	return api.Member{Meta: x.Meta, Name: x.name, Size: x.Size, Data: x.data}
+}
+
+// AddTo puts what the part tells into the archive.
+func (x Part) AddTo(p *api.Parsed) {
+	p.Kind = x.kind
+	switch {
+	case x.IsOrdinary():
+		p.Members = append(p.Members, x.Member())
+		p.At = append(p.At, x.At)
+	case x.isIndex():
+		p.Form, p.Index, p.Stamp = x.form(), x.data, x.Date
+	}
 }
