@@ -3,6 +3,7 @@ package lay
 import (
 	"shelf/api"
 	"shelf/head"
+	"shelf/part"
 )
 
 // tableField is the name field of the table of long names.
@@ -10,7 +11,7 @@ const tableField = "//"
 
 // sheet is parts in their order, and why the first header that could not be written was refused.
 type sheet struct {
-	parts   []part
+	parts   []part.Text
 	refusal api.Errno
 }
 
@@ -20,12 +21,12 @@ func (s *sheet) add(h api.Head, ahead, data string) {
 	if s.refusal == api.OK {
 		s.refusal = e
 	}
-	s.parts = append(s.parts, part{header, ahead, data})
+	s.parts = append(s.parts, part.Text{header, ahead, data})
 }
 
 // partsOf is all that stands in an archive, in order.
-func partsOf(a api.Archive, n api.Names) ([]part, api.Errno) {
-	s := sheet{parts: []part{{magicOf(a.Kind)}}}
+func partsOf(a api.Archive, n api.Names) ([]part.Text, api.Errno) {
+	s := sheet{parts: []part.Text{{magicOf(a.Kind)}}}
 	if a.Form != api.NoIndex {
 		s.add(api.Head{Meta: api.Meta{Date: a.Stamp}, Name: fieldOf(a.Form), Size: len(a.Index)}, "", a.Index)
 	}
@@ -54,12 +55,4 @@ func fieldOf(form api.Form) string {
 		return "__.SYMDEF"
 	}
 	return "/"
-}
-
-// indexLength is how long Plan is told that the index is.
-func indexLength(a api.Archive) int {
-	if a.Form == api.NoIndex {
-		return noIndex
-	}
-	return len(a.Index)
 }

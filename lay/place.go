@@ -3,6 +3,7 @@ package lay
 import (
 	"shelf/api"
 	"shelf/names"
+	"shelf/part"
 )
 
 // noIndex is the length of an index that is not there.
@@ -49,23 +50,18 @@ func isTableTooLong(kind api.Kind, all []string) bool {
 func place(kind api.Kind, list []api.Spec, index int, n api.Names) api.Layout {
 	l := api.Layout{At: make([]int, len(list)), Table: len(n.Table), Total: len(api.MagicRegular)}
 	if index != noIndex {
-		l.Total += room(index)
+		l.Total += part.Room(index)
 	}
 	if l.Table > 0 {
-		l.Total += room(l.Table)
+		l.Total += part.Room(l.Table)
 	}
 	for i, s := range list {
 		l.At[i] = l.Total
 		if kind == api.Thin {
-			l.Total += room(0)
+			l.Total += part.Room(0)
 		} else {
-			l.Total += room(len(n.Inline[i]) + s.Size)
+			l.Total += part.Room(len(n.Inline[i]) + s.Size)
 		}
 	}
 	return l
 }
-
-// room is how many bytes a header takes with so many bytes behind it.
-func room(data int) int { return api.HeadSize + even(data) }
-
-func even(n int) int { return n + n%2 }

@@ -7,26 +7,7 @@ import (
 
 // symbolsOf gathers the names that go into an index, each with the number of its unit: the unit's place is not known before everything is laid out.
 func symbolsOf(list []api.Unit) pairs.List[string, int] {
-	count := 0
-	for _, u := range list {
-		count += len(u.Syms)
-	}
-	all := make(pairs.List[string, int], 0, count)
-	for number, u := range list {
-		for _, name := range u.Syms {
-			all.Add(name, number)
-		}
-	}
-	return all
-}
-
-// entriesOf is what an index says of these symbols once their units have places.
-func entriesOf(symbols pairs.List[string, int], at []int) []api.Entry {
-	entries := make([]api.Entry, len(symbols))
-	for i, symbol := range symbols {
-		entries[i] = api.Entry{Name: symbol.Left, At: at[symbol.Right]}
-	}
-	return entries
+	return pairs.Numbered(list, func(u api.Unit) []string { return u.Syms })
 }
 
 func specsOf(list []api.Unit) []api.Spec {

@@ -23,3 +23,14 @@ func (l List[L, R]) Lefts() []L {
 	}
 	return lefts
 }
+
+// Numbered are the values that each element of a list has, each with the element's number, in order.
+func Numbered[T, L any](list []T, of func(T) []L) List[L, int] {
+	var all List[L, int]
+	for number, element := range list {
+		for _, value := range of(element) {
+			all.Add(value, number)
+		}
+	}
+	return all
+}

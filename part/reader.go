@@ -35,7 +35,8 @@ func KindByMagic(b string) (api.Kind, api.Errno) {
 
 // Look reads the part at a place, and refuses it in the order of the chapters on archives. Of a part that is refused the place alone counts.
 func (r *Reader) Look(at int) (Part, api.Errno) {
-	x, e := readHead(r.file, at)
+	raw, e := ReadHead(r.file, at)
+	x := Part{Raw: raw}
 	if e != api.OK {
 		return x, e
 	}
@@ -46,8 +47,10 @@ func (r *Reader) Look(at int) (Part, api.Errno) {
 	if !r.isInPlace(x) {
 		return x, api.ErrPlace
 	}
-	if e := x.cutData(r.file); e != api.OK {
-		return x, e
+	if x.hasData() {
+		if e := x.CutData(r.file); e != api.OK {
+			return x, e
+		}
 	}
 	e = x.findName(r.table) // not beside x in the return: Go leaves open whether x is read ahead of a call that changes it
 	return x, e
@@ -56,7 +59,7 @@ func (r *Reader) Look(at int) (Part, api.Errno) {
 // kindAt is the archive's kind: a regular one's first part settles it.
 func (r *Reader) kindAt(x Part) api.Kind {
 	if r.count == 0 && r.kind != api.Thin {
-		return names.KindOf(x.field.Sort)
+		return names.KindOf(x.Field.Sort)
 	}
 	return r.kind
 }
@@ -80,6 +83,6 @@ func (r *Reader) Take(x Part) {
 		r.indexed = true
 	}
 	if x.isTable() {
-		r.table = x.data
+		r.table = x.Data
 	}
 }
